@@ -1,0 +1,1 @@
+"""What words do to a machine of a few states."""
