@@ -36,6 +36,7 @@ class Algebra:
         self.last = []
         # behind[e][a] is the element e with the letter a put behind.
         self.behind = []
+        self.known = {}
         self.keep(tuple(range(q)), None, None)
         # Going through the elements in order, and the letters in order, meets
         # words in their order: the first word that does a thing finds it.
@@ -61,6 +62,12 @@ class Algebra:
                 number = self.keep(row, e, a)
             found.append(number)
         return found
+
+    # A machine stays as it is: what was found out of it once holds, and may be asked hundreds of times.
+    def once(self, name, find):
+        if name not in self.known:
+            self.known[name] = find(self)
+        return self.known[name]
 
     def check(self, e):
         if e < 0 or e >= len(self.rows):

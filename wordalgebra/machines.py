@@ -1,6 +1,8 @@
 """The calls on two machines, read from one list and answered in another."""
 
 from wordalgebra.algebra import Algebra, Refused, TooManyElements
+from wordalgebra.classes import classes_of_kind, how_many, ideal_of, kind_of, zero_of
+from wordalgebra.languages import alike_classes, is_free
 
 BEGIN = 0
 SIZE = 1
@@ -8,6 +10,12 @@ OF = 2
 WORD = 3
 PRODUCT = 4
 POWER = 5
+CLASSES = 6
+KIND = 7
+IDEAL = 8
+ZERO = 9
+SAYS = 10
+FREE = 11
 
 
 class Reader:
@@ -44,6 +52,29 @@ def product(machine, reader):
     return [machine.product(a, b)]
 
 
+def classes(machine, reader):
+    found = classes_of_kind(machine, reader.take())
+    return [how_many(found)] + found
+
+
+def ideal(machine):
+    found = ideal_of(machine)
+    return [sum(found)] + found
+
+
+def says(machine, reader):
+    start = reader.take()
+    ends = reader.take()
+    found = alike_classes(machine, start, ends)
+    return [how_many(found)] + found
+
+
+def free(machine, reader):
+    start = reader.take()
+    ends = reader.take()
+    return [is_free(machine, start, ends)]
+
+
 # Each call is read to its end before it is judged, so that the next one is found after a refusal too.
 def carry_out(machines, reader):
     call = reader.take()
@@ -61,6 +92,18 @@ def carry_out(machines, reader):
         return product(machine, reader)
     if call == POWER:
         return [0] + machine.power(reader.take())
+    if call == CLASSES:
+        return classes(machine, reader)
+    if call == KIND:
+        return [kind_of(machine)]
+    if call == IDEAL:
+        return ideal(machine)
+    if call == ZERO:
+        return [zero_of(machine)]
+    if call == SAYS:
+        return says(machine, reader)
+    if call == FREE:
+        return free(machine, reader)
     raise ValueError(f"no call has the number {call}")
 
 
